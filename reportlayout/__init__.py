@@ -1,0 +1,1 @@
+"""Plain-text report layout: paragraphs, tables, plots and pages."""

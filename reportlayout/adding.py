@@ -3,17 +3,18 @@
 Each answers a list: the index of the new item, or an error code alone.
 """
 
-from reportlayout.cells import decode_cells, is_number_cell, is_text_cell, split_into_rows
+from reportlayout.cells import decode_cells, is_number_cell, is_text_cell
 from reportlayout.errors import BAD_CELL_COUNT, BAD_CELLS, BAD_COLUMN_COUNT, BAD_COORDINATE_COUNT
-from reportlayout.errors import BAD_LEVEL, BAD_PLOT_HEIGHT, NOT_A_TEXT, NOT_ZERO_OR_ONE, OUT_OF_RANGE
-from reportlayout.errors import TOO_MANY_ITEMS
+from reportlayout.errors import BAD_LEVEL, BAD_PLOT_HEIGHT, NOT_A_FULL_TEXT, NOT_A_TEXT, NOT_ZERO_OR_ONE
+from reportlayout.errors import OUT_OF_RANGE, TOO_MANY_ITEMS
+from reportlayout.items import MOST_COLUMNS, MOST_ROWS_WITH_HEADERS
 from reportlayout.items import BarChart, Check, Heading, Paragraph, Plot, Table
+from reportlayout.lines import cut_into_pieces
 from reportlayout.ranges import is_within
+from reportlayout.table_reading import read_full_text
 from reportlayout.texts import is_text
 
 MOST_ITEMS = 12
-MOST_COLUMNS = 8
-MOST_ROWS_WITH_HEADERS = 25
 MOST_COORDINATES = 120
 MOST_CELLS_OF_BARS = 40
 # 10 to the power of 18, less 1
@@ -69,7 +70,7 @@ def add_table(items, columns, numbers):
         return [BAD_CELLS]
     if not is_table_size(len(cells), columns):
         return [BAD_CELL_COUNT]
-    rows = split_into_rows(cells, columns)
+    rows = cut_into_pieces(cells, columns)
     if any([is_number_cell(header) for header in rows[0]]):
         return [BAD_CELLS]
     return append_item(items, Table(rows[0], rows[1:]))
@@ -123,10 +124,20 @@ def add_bars(items, numbers):
         return [BAD_CELLS]
     if len(cells) % 2 != 0 or len(cells) > MOST_CELLS_OF_BARS:
         return [BAD_CELL_COUNT]
-    pairs = split_into_rows(cells, 2)
+    pairs = cut_into_pieces(cells, 2)
     if not all([is_text_and_number(pair) for pair in pairs]):
         return [BAD_CELLS]
     bars = [(pair[0][1], pair[1][1]) for pair in pairs]
     if not all([is_within(bar[1], 0, GREATEST_NUMBER) for bar in bars]):
         return [OUT_OF_RANGE]
     return append_item(items, BarChart(bars))
+
+
+def read_table(items, text):
+    """Add the table whose full text is given."""
+    if is_full(items):
+        return [TOO_MANY_ITEMS]
+    table = read_full_text(text)
+    if table is None:
+        return [NOT_A_FULL_TEXT]
+    return append_item(items, table)

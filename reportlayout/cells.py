@@ -69,6 +69,8 @@ def decode_cells(numbers):
     return cells
 
 
-def split_into_rows(cells, columns):
-    """Split cells into rows of as many cells as there are columns."""
-    return [cells[start:start + columns] for start in range(0, len(cells), columns)]
+def encode_cell(cell):
+    """Give the whole numbers that encode a cell."""
+    if is_text_cell(cell):
+        return [TEXT, len(cell[1])] + list(cell[1])
+    return [NUMBER, cell[1]]

@@ -1,10 +1,13 @@
 """Requests: lists of whole numbers that hold calls one behind another."""
 
 # For the number of each call, how many whole numbers it takes before its list.
-INTEGER_COUNTS = {0: 1, 1: 0, 2: 1, 3: 1, 4: 1, 5: 0, 6: 1, 7: 2, 8: 3}
+INTEGER_COUNTS = {
+    0: 1, 1: 0, 2: 1, 3: 1, 4: 1, 5: 0, 6: 1, 7: 2, 8: 3,
+    9: 1, 10: 2, 11: 1, 12: 2, 13: 2, 14: 0, 15: 0, 16: 1,
+}
 
 # The numbers of the calls that take a list.
-LIST_CALLS = (0, 1, 2, 3, 4, 5)
+LIST_CALLS = (0, 1, 2, 3, 4, 5, 9, 14)
 
 
 class Call:

@@ -1,8 +1,8 @@
 """Texts: at most 200 bytes, each of them a line feed or from 32 to 126."""
 
 from reportlayout.ranges import is_within
+from reportlayout.signs import LINE_FEED
 
-LINE_FEED = 10
 MOST_BYTES_OF_TEXT = 200
 
 

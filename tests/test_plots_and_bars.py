@@ -1,9 +1,7 @@
 """add_plot and add_bars."""
 
-from reportlayout.items import BarChart, Plot
-from reportlayout.report import perform_calls
 from tests.helpers import BAD_ENCODINGS, HUGE, IN_A_TEXT, NOT_IN_A_TEXT, CallTest
-from tests.helpers import add_bars, add_heading, add_plot, cells, text
+from tests.helpers import add_bars, add_heading, add_plot, cells, kinds_after, laid_out, text
 
 
 class AddPlotTest(CallTest):
@@ -11,11 +9,16 @@ class AddPlotTest(CallTest):
     def test_ordinary_plot(self):
         call = add_plot(5, [0, 0, 10, 5, 10, 5, 5, -2])
         self.assert_adds(call)
-        items = []
-        perform_calls(items, call)
-        self.assertIsInstance(items[0], Plot)
-        self.assertEqual(items[0].height, 5)
-        self.assertEqual(items[0].points, [(0, 0), (10, 5), (10, 5), (5, -2)])
+        self.assertEqual(kinds_after(call), [3])
+        self.assertEqual(laid_out(call, 20), [
+            " 5|                2",
+            "  |",
+            "  |",
+            "  |*",
+            "-2|        *",
+            "  +-----------------",
+            "   0              10",
+        ])
 
     def test_heights(self):
         for height in (3, 4, 39, 40):
@@ -30,9 +33,9 @@ class AddPlotTest(CallTest):
             self.assert_refused(add_plot(3, [1] * count), -8)
 
     def test_sixty_points_are_kept(self):
-        items = []
-        perform_calls(items, add_plot(40, list(range(120))))
-        self.assertEqual(items[0].points, [(2 * place, 2 * place + 1) for place in range(60)])
+        lines = laid_out(add_plot(40, list(range(120))), 64)
+        self.assertEqual([line[4:].count("*") for line in lines[:40]].count(0), 0)
+        self.assertEqual("".join(lines[:40]).count("*"), 60)
 
     def test_bounds_of_coordinates(self):
         greatest = HUGE - 1
@@ -71,10 +74,8 @@ class AddBarsTest(CallTest):
     def test_ordinary_bars(self):
         call = add_bars(cells("a", 3, "b\nc", 1))
         self.assert_adds(call)
-        items = []
-        perform_calls(items, call)
-        self.assertIsInstance(items[0], BarChart)
-        self.assertEqual([(list(bar[0]), bar[1]) for bar in items[0].bars], [(text("a"), 3), (text("b\nc"), 1)])
+        self.assertEqual(kinds_after(call), [5])
+        self.assertEqual(laid_out(call, 20), ["a   ============== 3", "b c ====           1"])
 
     def test_counts_of_bars(self):
         for count in (0, 1, 2, 19, 20):
@@ -83,10 +84,11 @@ class AddBarsTest(CallTest):
             self.assert_refused(add_bars(cells("a", 3) * count), -6)
 
     def test_twenty_bars_are_kept(self):
-        values = [value for number in range(20) for value in ("b" * number, number)]
-        items = []
-        perform_calls(items, add_bars(cells(*values)))
-        self.assertEqual([(len(bar[0]), bar[1]) for bar in items[0].bars], [(number, number) for number in range(20)])
+        values = [value for number in range(20) for value in ("b" * (number % 5), number)]
+        lines = laid_out(add_bars(cells(*values)), 30)
+        expected = ["b" * (number % 5) for number in range(20)]
+        self.assertEqual([line[:4].rstrip() for line in lines], expected)
+        self.assertEqual([int(line[-2:]) for line in lines], list(range(20)))
 
     def test_odd_counts_of_cells(self):
         for count in (0, 1, 19, 20):

@@ -1,16 +1,10 @@
-"""sort_rows and the order of cells.
-
-No call of 0 to 8 answers the rows of a table. So perform_calls, by which
-answers carries out its calls, is given a list of items that can be looked at.
-"""
+"""sort_rows and the order of cells."""
 
 import itertools
 
-from reportlayout.items import Table
-from reportlayout.report import perform_calls
 from tests.helpers import BELOW_ZERO, HUGE, CallTest
 from tests.helpers import add_bars, add_check, add_heading, add_paragraph, add_plot, add_table, ask, cells
-from tests.helpers import items_after, join, last, sort_rows, text
+from tests.helpers import full_text, items_after, join, last, read_table, sort_rows, table_after, text
 
 # In ascending order, with none equal to another.
 IN_ORDER = (
@@ -19,31 +13,21 @@ IN_ORDER = (
 )
 
 
-def cell(value):
-    if isinstance(value, int):
-        return (0, value)
-    return (1, tuple(text(value)))
-
-
 def rows_after(columns, rows, *calls):
     """The rows of a table, as the call add_table gives it, after further calls."""
     headers = ["z", "y", "x", "w", "v", "u", "t", "s"][:columns]
-    items = []
-    given = perform_calls(items, join((add_table(columns, cells(*headers, *join(rows))),) + calls))
-    assert given == [1, 0] * (1 + len(calls)), given
-    assert items[0].headers == [cell(header) for header in headers]
-    return items[0].rows
-
-
-def expected_rows(rows):
-    return [[cell(value) for value in row] for row in rows]
+    given = (add_table(columns, cells(*headers, *join(rows))),) + calls
+    assert ask(*given) == [[0]] * len(given), given
+    seen = table_after(*given)
+    assert seen[0] == headers, seen
+    return seen[1:]
 
 
 class OrderTest(CallTest):
 
     def assert_sorted(self, values, in_order):
         rows = [[value] for value in values]
-        up = expected_rows([[value] for value in in_order])
+        up = [[value] for value in in_order]
         self.assertEqual(rows_after(1, rows, sort_rows(0, 0, 0)), up)
         self.assertEqual(rows_after(1, rows, sort_rows(0, 0, 1)), up[::-1])
 
@@ -80,25 +64,20 @@ class OrderTest(CallTest):
     def test_numbers_beyond_the_range_of_calls(self):
         in_order = [-10 ** 30 + 1, -10 ** 30 + 2, -HUGE - 1, -HUGE, 0, HUGE, HUGE + 1, 10 ** 30 - 2, 10 ** 30 - 1, ""]
         for step in (1, 3, 7, 9):
-            values = [in_order[place * step % 10] for place in range(10)]
-            for descending in (0, 1):
-                table = Table([cell("h")], expected_rows([[value] for value in values]))
-                self.assertEqual(perform_calls([table], sort_rows(0, 0, descending)), [1, 0])
-                expected = expected_rows([[value] for value in in_order])
-                if descending == 1:
-                    expected.reverse()
-                self.assertEqual(table.rows, expected)
+            values = [[in_order[place * step % 10]] for place in range(10)]
+            table = read_table(full_text(["h"], *values))
+            expected = [[value] for value in in_order]
+            self.assertEqual(table_after(table, sort_rows(0, 0, 0)), [["h"]] + expected)
+            self.assertEqual(table_after(table, sort_rows(0, 0, 1)), [["h"]] + expected[::-1])
 
 
 class SortRowsTest(CallTest):
 
     def test_rows_stay_whole(self):
         rows = [[3, "c", 1], [1, "a", 2], [2, "b", 3]]
-        self.assertEqual(
-            rows_after(3, rows, sort_rows(0, 0, 0)), expected_rows([[1, "a", 2], [2, "b", 3], [3, "c", 1]]))
-        self.assertEqual(
-            rows_after(3, rows, sort_rows(0, 1, 1)), expected_rows([[3, "c", 1], [2, "b", 3], [1, "a", 2]]))
-        self.assertEqual(rows_after(3, rows, sort_rows(0, 2, 0)), expected_rows(rows))
+        self.assertEqual(rows_after(3, rows, sort_rows(0, 0, 0)), [[1, "a", 2], [2, "b", 3], [3, "c", 1]])
+        self.assertEqual(rows_after(3, rows, sort_rows(0, 1, 1)), [[3, "c", 1], [2, "b", 3], [1, "a", 2]])
+        self.assertEqual(rows_after(3, rows, sort_rows(0, 2, 0)), rows)
 
     def test_each_column_of_eight(self):
         rows = [[(number * step) % 11 for step in range(1, 9)] for number in range(1, 11)]
@@ -108,39 +87,39 @@ class SortRowsTest(CallTest):
                     row for value in range(1, 11) for row in rows if row[column] == value]
                 if descending == 1:
                     expected.reverse()
-                self.assertEqual(rows_after(8, rows, sort_rows(0, column, descending)), expected_rows(expected))
+                self.assertEqual(rows_after(8, rows, sort_rows(0, column, descending)), expected)
 
     def test_stable_both_ways(self):
         rows = [["b", 1], ["a", 2], ["b", 3], [7, 4], ["a", 5], [7, 6], ["b", 7], ["a", 8]]
-        self.assertEqual(rows_after(2, rows, sort_rows(0, 0, 0)), expected_rows(
-            [[7, 4], [7, 6], ["a", 2], ["a", 5], ["a", 8], ["b", 1], ["b", 3], ["b", 7]]))
-        self.assertEqual(rows_after(2, rows, sort_rows(0, 0, 1)), expected_rows(
-            [["b", 1], ["b", 3], ["b", 7], ["a", 2], ["a", 5], ["a", 8], [7, 4], [7, 6]]))
+        self.assertEqual(
+            rows_after(2, rows, sort_rows(0, 0, 0)),
+            [[7, 4], [7, 6], ["a", 2], ["a", 5], ["a", 8], ["b", 1], ["b", 3], ["b", 7]])
+        self.assertEqual(
+            rows_after(2, rows, sort_rows(0, 0, 1)),
+            [["b", 1], ["b", 3], ["b", 7], ["a", 2], ["a", 5], ["a", 8], [7, 4], [7, 6]])
 
     def test_stable_with_24_rows(self):
         rows = [[number * 7 % 3, 24 - number] for number in range(24)]
         for descending in (0, 1):
             values = [0, 1, 2] if descending == 0 else [2, 1, 0]
             expected = [row for value in values for row in rows if row[0] == value]
-            self.assertEqual(rows_after(2, rows, sort_rows(0, 0, descending)), expected_rows(expected))
+            self.assertEqual(rows_after(2, rows, sort_rows(0, 0, descending)), expected)
 
     def test_equal_rows_are_all_kept(self):
         rows = [[1, "x"], [0, "x"], [1, "x"], [1, "x"]]
-        self.assertEqual(rows_after(2, rows, sort_rows(0, 0, 0)), expected_rows([rows[1], rows[0], rows[0], rows[0]]))
+        self.assertEqual(rows_after(2, rows, sort_rows(0, 0, 0)), [rows[1], rows[0], rows[0], rows[0]])
         for descending in (0, 1):
-            self.assertEqual(rows_after(2, rows, sort_rows(0, 1, descending)), expected_rows(rows))
+            self.assertEqual(rows_after(2, rows, sort_rows(0, 1, descending)), rows)
 
     def test_by_one_column_after_another(self):
         rows = [[1, "b"], [2, "a"], [1, "a"], [2, "b"]]
-        self.assertEqual(rows_after(2, rows, sort_rows(0, 1, 0), sort_rows(0, 0, 1)), expected_rows(
-            [[2, "a"], [2, "b"], [1, "a"], [1, "b"]]))
+        self.assertEqual(
+            rows_after(2, rows, sort_rows(0, 1, 0), sort_rows(0, 0, 1)), [[2, "a"], [2, "b"], [1, "a"], [1, "b"]])
 
     def test_sorted_again(self):
         rows = [[2], ["a"], [1]]
-        self.assertEqual(
-            rows_after(1, rows, sort_rows(0, 0, 0), sort_rows(0, 0, 1)), expected_rows([["a"], [2], [1]]))
-        self.assertEqual(
-            rows_after(1, rows, sort_rows(0, 0, 0), sort_rows(0, 0, 0)), expected_rows([[1], [2], ["a"]]))
+        self.assertEqual(rows_after(1, rows, sort_rows(0, 0, 0), sort_rows(0, 0, 1)), [["a"], [2], [1]])
+        self.assertEqual(rows_after(1, rows, sort_rows(0, 0, 0), sort_rows(0, 0, 0)), [[1], [2], ["a"]])
 
     def test_only_the_table_named(self):
         table = add_table(1, cells("h", 2, 1))

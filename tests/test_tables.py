@@ -1,9 +1,8 @@
 """add_table."""
 
-from reportlayout.items import Table
-from reportlayout.report import perform_calls
 from tests.helpers import BAD_ENCODINGS, HUGE, IN_A_TEXT, NOT_IN_A_TEXT, CallTest
-from tests.helpers import add_heading, add_paragraph, add_table, cells, column_counts, text
+from tests.helpers import add_heading, add_paragraph, add_table, cells, column_counts, kinds_after, last
+from tests.helpers import table_after, table_cells, text
 
 
 def headers(columns):
@@ -15,14 +14,8 @@ class AddTableTest(CallTest):
     def test_ordinary_table(self):
         call = add_table(2, cells("n", "name", 5, "a", -12, "b | c"))
         self.assert_adds(call)
-        items = []
-        perform_calls(items, call)
-        self.assertIsInstance(items[0], Table)
-        self.assertEqual(items[0].headers, [(1, (110,)), (1, (110, 97, 109, 101))])
-        self.assertEqual(items[0].rows, [
-            [(0, 5), (1, (97,))],
-            [(0, -12), (1, (98, 32, 124, 32, 99))],
-        ])
+        self.assertEqual(kinds_after(call), [2])
+        self.assertEqual(table_after(call), [["n", "name"], [5, "a"], [-12, "b | c"]])
 
     def test_column_counts(self):
         for columns in range(1, 9):
@@ -42,9 +35,16 @@ class AddTableTest(CallTest):
 
     def test_rows_are_kept(self):
         for rows in (0, 1, 24):
-            items = []
-            perform_calls(items, add_table(2, headers(2) + cells(*range(2 * rows))))
-            self.assertEqual(items[0].rows, [[(0, 2 * row), (0, 2 * row + 1)] for row in range(rows)])
+            call = add_table(2, headers(2) + cells(*range(2 * rows)))
+            expected = [["h0", "h1"]] + [[2 * row, 2 * row + 1] for row in range(rows)]
+            self.assertEqual(table_after(call), expected)
+
+    def test_cells_come_back_as_they_were_given(self):
+        for columns, rows, numbers in (
+            (1, 0, cells("h")), (2, 2, cells("", "\n", -HUGE, HUGE, "x" * 200, 0)), (8, 0, cells(*"abcdefgh")),
+            (1, 24, cells("h") + cells("\"|~\\", 5) * 12),
+        ):
+            self.assertEqual(last(add_table(columns, numbers), table_cells(0)), [columns, rows] + numbers)
 
     def test_no_cells(self):
         for columns in (1, 2, 8):

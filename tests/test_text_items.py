@@ -1,15 +1,7 @@
 """add_heading, add_paragraph and add_check."""
 
-from reportlayout.items import Check, Heading, Paragraph
-from reportlayout.report import perform_calls
 from tests.helpers import HUGE, IN_A_TEXT, NOT_IN_A_TEXT, CallTest
-from tests.helpers import add_check, add_heading, add_paragraph, ask, text
-
-
-def item_of(call):
-    items = []
-    perform_calls(items, call)
-    return items[0]
+from tests.helpers import add_check, add_heading, add_paragraph, ask, kinds_after, laid_out, text
 
 
 class TextTest(CallTest):
@@ -68,16 +60,16 @@ class TextTest(CallTest):
             self.assert_refused(call, -3, before)
 
     def test_contents(self):
-        heading = item_of(add_heading(3, text("a\nb")))
-        self.assertIsInstance(heading, Heading)
-        self.assertEqual((heading.level, list(heading.text)), (3, text("a\nb")))
-        paragraph = item_of(add_paragraph(text(" c ")))
-        self.assertIsInstance(paragraph, Paragraph)
-        self.assertEqual(list(paragraph.text), text(" c "))
-        for passed in (0, 1):
-            check = item_of(add_check(passed, text("d")))
-            self.assertIsInstance(check, Check)
-            self.assertEqual((check.passed, list(check.text)), (passed, text("d")))
+        heading = add_heading(3, text("a\nb"))
+        self.assertEqual(kinds_after(heading), [0])
+        self.assertEqual(laid_out(heading, 20), ["# a b"])
+        paragraph = add_paragraph(text("c\nd"))
+        self.assertEqual(kinds_after(paragraph), [1])
+        self.assertEqual(laid_out(paragraph, 20), ["c", "d"])
+        for passed, line in ((0, "[no] d"), (1, "[ok] d")):
+            check = add_check(passed, text("d"))
+            self.assertEqual(kinds_after(check), [4])
+            self.assertEqual(laid_out(check, 20), [line])
 
 
 class HeadingTest(CallTest):
